@@ -18,7 +18,7 @@ def capability_info(store, capability):
 
 def is_above(store, first, second):
     """Return True if both capabilities are there and the first one is above the second one."""
-    return _is_there(store, first) and first in _path(store, second)
+    return first in _path(store, second)
 
 
 def is_fit(store, change):
@@ -92,8 +92,8 @@ def counts_in(store, allowed, change, space):
     """Return True if the change is allowed and its capability may write the space."""
     if not _is_allowed(allowed, change):
         return False
-    info = capability_info(store, change.capability)
-    return info is not None and info[2][space][WRITE]
+    rights = capability_info(store, change.capability)[2]
+    return rights[space][WRITE]
 
 
 def writing_capabilities(store, allowed, member, space):
@@ -158,11 +158,10 @@ def _path(store, capability):
     there = _is_there(store, capability)
     while there and capability not in path:
         path.append(capability)
-        if capability is not None:
-            granted = _is_granted(store, capability)
-            capability = _stated(store, capability)[0]
-            # Only the parent of a kept capability may be missing.
-            there = granted or _is_there(store, capability)
+        granted = _is_granted(store, capability)
+        capability = _stated(store, capability)[0]
+        # Only the parent of a kept capability may be missing.
+        there = granted or _is_there(store, capability)
     return path
 
 

@@ -7,7 +7,7 @@ from kithwhole.stocks import shares
 from kithwhole.store import Kept, is_cut
 from kithwhole.undo import acts_of, is_closed_for, knows, taking_effect
 
-CELL_ACTS = ("put", "refer", "add", "insert", "spend", "lend")
+CELL_ACTS = ("put", "refer", "add", "spend", "lend")
 WRITES = ("put", "refer")
 # What columns hold that have no single value that is written.
 GATHERED = ("counter", "stock", "letters")

@@ -86,6 +86,14 @@ class Effects(unittest.TestCase):
                 told = net.sheet().entry(ROW, COLUMN[holds])
                 self.assertEqual(told, fitting.get((word, holds), nothing.get(holds)), (word, holds))
 
+    def test_no_reference_in_a_column_of_values_and_no_value_in_one_of_references(self):
+        net = start()
+        net.change(0, [("put", ROW, NUMBER, 5), ("refer", ROW, REFER, ROW)])
+        net.change(0, [("refer", ROW, NUMBER, None), ("put", ROW, REFER, None)])
+        sheet = net.sheet()
+        self.assertEqual(sheet.shown(ROW, NUMBER), [5])
+        self.assertEqual(sheet.shown(ROW, REFER), [ROW])
+
     def test_the_row_and_the_column_must_be_known(self):
         net = start()
         made = net.change(1, [("row", TABLE), ("column", TABLE, "n", "integer"), ("column", TABLE, "m", "counter")],
@@ -329,6 +337,15 @@ class KeptWrites(unittest.TestCase):
         self.assertEqual(net.sheet().entry(ROW, REFER), (0, 2, 9))
         net.change(0, [("refer", ROW, REFER, (0, 2, 9))])
         self.assertEqual(net.sheet().writes(ROW, REFER), [(0, 3, 0)])
+
+    def test_there_are_no_writes_for_counters_stocks_and_letters(self):
+        for holds in ("counter", "stock", "letters"):
+            net = self.kept([((0, 3, 0), ("put", ROW, COLUMN[holds], None))])
+            self.assertEqual(net.sheet().writes(ROW, COLUMN[holds]), [])
+
+    def test_only_writes_are_writes(self):
+        net = self.kept([((0, 3, 0), ("add", ROW, NUMBER, 1)), ((0, 3, 1), ("insert", ROW, NUMBER, None, "a"))])
+        self.assertEqual(net.sheet().writes(ROW, NUMBER), [])
 
     def test_a_kept_write_needs_its_cell(self):
         net = self.kept([((0, 3, 0), ("put", ROW, NUMBER, 1))], columns=("text",))

@@ -41,6 +41,7 @@ class Base(unittest.TestCase):
 
     def signs(self, net):
         """All characters, those that do not show in brackets."""
+        self.text(net)
         return "".join(sign if shows else "[" + sign + "]" for _, sign, shows in self.listed(net))
 
 

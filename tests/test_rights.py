@@ -269,6 +269,12 @@ class Revocations(unittest.TestCase):
         # Above the second one lies nothing but itself.
         self.assertEqual(revoked_by(store, change), [(1, 1, 0)])
 
+    def test_kept_ones_need_no_grant_in_the_past(self):
+        store = kept_store()
+        change = make(0, 4, [3, 0, 0, 0], None, [("revoke", (1, 1, 0))])
+        store.add(change)
+        self.assertEqual(revoked_by(store, change), [(1, 1, 0)])
+
 
 class Verdicts(unittest.TestCase):
     def test_fit_changes_are_allowed(self):

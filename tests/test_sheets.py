@@ -63,6 +63,11 @@ class Making(unittest.TestCase):
         self.assertEqual(told, ["integer", "text", "boolean", ("refer", TABLE), "counter", "stock", "letters"])
         self.assertEqual({sheet.table_of(column) for column in sheet.columns[TABLE]}, {TABLE})
 
+    def test_what_is_no_column_holds_nothing(self):
+        sheet = start().sheet()
+        self.assertIsNone(sheet.holds(TABLE))
+        self.assertIsNone(sheet.holds((0, 9, 9)))
+
     def test_columns_and_rows_must_know_their_table(self):
         net = start()
         table = net.change(1, [("row", (1, 1, 1)), ("table", "u")], capability=cap(1)) + (1,)

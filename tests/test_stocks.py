@@ -154,6 +154,13 @@ class Covered(Base):
         self.assertEqual(self.missing(net), {(0, 2, 0): 0, (1, 1, 0): 1})
         self.assertEqual(self.shares(net), [5, 0, 0])
 
+    def test_spends_of_others_do_not_cover(self):
+        net = start()
+        net.change(0, [add(5), spend(1), spend(2)])
+        net.change(1, [spend(1)], capability=cap(1))
+        net.change(2, [spend(1)], capability=cap(2))
+        self.assertEqual(shorts(net.sheet()), [((1, 1, 0), 1), ((2, 1, 0), 1)])
+
     def test_lends_that_are_known_cover(self):
         net = start()
         net.change(0, [add(5), lend(1, 3)])
@@ -290,6 +297,12 @@ class Shorts(Base):
         net.change(0, [spend(4), add(9), spend(9), lend(1, 1)])
         self.assertEqual(shorts(net.sheet()), [
             ((1, 1, 0), 1), ((1, 1, 1), 2), ((2, 1, 0), 3), ((0, 2, 0), 4), ((0, 2, 3), 1)])
+
+    def test_cells_with_one_act(self):
+        for act in (spend(3), lend(1, 3)):
+            net = start()
+            net.change(0, [act])
+            self.assertEqual(shorts(net.sheet()), [((0, 2, 0), 3)])
 
     def test_the_results_are_new(self):
         net = start()
