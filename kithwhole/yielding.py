@@ -1,6 +1,7 @@
 """Rows that yield, rows that show, the reasons why rows do not show, and conflicts."""
 
 from kithwhole.cells import is_reference
+from kithwhole.holders import unheld_names
 
 
 def reasons(sheet):
@@ -16,13 +17,18 @@ def reasons(sheet):
 
 def showing(sheet, table):
     """Return the list of the rows of the table that show, in order."""
+    return all_showing(sheet)[table]
+
+
+def all_showing(sheet):
+    """Return for each table the list of its rows that show, in order."""
     hidden = reasons(sheet)
-    return [row for row in sheet.live[table] if row not in hidden]
+    return {table: [row for row in sheet.live[table] if row not in hidden] for table in sheet.tables}
 
 
 def conflicts(sheet):
     """Return the lists of the conflicts about names, rows and cells."""
-    return (_name_conflicts(sheet), _row_conflicts(sheet), _cell_conflicts(sheet))
+    return (unheld_names(sheet), _row_conflicts(sheet), _cell_conflicts(sheet))
 
 
 def _yields(sheet):
@@ -103,27 +109,6 @@ def _live_rows(sheet):
     """Return the live rows of all tables together, in the order of the effective acts."""
     rows = [(sheet.place[row], row) for table in sheet.tables for row in sheet.live[table]]
     return [row for _, row in sorted(rows)]
-
-
-def _name_conflicts(sheet):
-    named = sorted([(sheet.place[spot], spot) for spot in sheet.tables + sheet.lenses])
-    found = _unheld([(spot, sheet.act_of(spot)[1]) for _, spot in named], {})
-    for table in sheet.tables:
-        columns = [(column, sheet.act_of(column)[2]) for column in sheet.columns[table]]
-        found = found + _unheld(columns, {"id": None})
-    return found
-
-
-def _unheld(named, holders):
-    """Return the triples of what does not hold its name, the name, and what holds it."""
-    found = []
-    held = {name: holders[name] for name in holders}
-    for spot, name in named:
-        if name in held:
-            found.append((spot, name, held[name]))
-        else:
-            held[name] = spot
-    return found
 
 
 def _row_conflicts(sheet):

@@ -23,6 +23,27 @@ FUNCTIONS = {
     "letters": {"characters": "store allowed space row column", "text_of": "store allowed space row column"},
     "yielding": {"reasons": "sheet", "showing": "sheet table", "conflicts": "sheet"},
     "stocks": {"flows": "sheet row column", "shares": "sheet row column", "shorts": "sheet"},
+    "sources": {"sources": "store allowed space", "all_sources": "store"},
+    "danger": {"danger": "store allowed space row column member amount"},
+    "lenses": {"through": "store member capability space lens edits"},
+    "tokens": {"tokenize": "text", "write_token": "token"},
+    "parser": {"parse": "text"},
+    "printer": {"write_question": "tree"},
+    "kinds": {
+        "kind_of": "value", "fits": "first second", "common": "first second", "check": "tree sources parameters",
+        "check_query": "query sources parameters"},
+    "values": {
+        "value_key": "value", "row_key": "row", "same": "first second", "arithmetic": "operator first second",
+        "compare": "operator first second", "negation": "value", "conjunction": "first second",
+        "disjunction": "first second"},
+    "meaning": {"query_rows": "query sources parameters", "answer": "tree sources parameters"},
+    "live": {
+        "came": "old new", "went": "old new", "change_of": "old new",
+        "join_change": "old_left new_left old_right new_right condition"},
+    "moments": {
+        "is_moment": "store counts", "at": "store counts", "meet": "first second", "join": "first second",
+        "moment_of": "store name", "chain": "store", "between": "store first second tree parameters",
+        "history": "store tree parameters"},
 }
 
 METHODS = {
@@ -32,6 +53,8 @@ METHODS = {
     ("store", "Store"): {
         "__init__": "members", "count": "member", "counts": "", "find": "name", "has": "name", "all_changes": "",
         "add": "change", "copy": "", "data": ""},
+    ("sources", "Source"): {"__init__": "name columns kinds rows"},
+    ("live", "Live"): {"__init__": "tree parameters", "turn": "sources"},
     ("sheets", "Sheet"): {
         "__init__": "store allowed space", "lens": "spot", "knows": "spot other", "act_of": "spot",
         "holds": "column", "table_of": "spot", "writes": "row column", "shown": "row column",

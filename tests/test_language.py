@@ -24,7 +24,7 @@ WORDS = {
 }
 FORBIDDEN = (
     ast.AsyncFunctionDef, ast.Await, ast.Global, ast.Yield, ast.YieldFrom, ast.GeneratorExp, ast.SetComp, ast.Set,
-    ast.NamedExpr, ast.Div, ast.Starred, ast.With, ast.Lambda, ast.Nonlocal, ast.Import,
+    ast.NamedExpr, ast.Div, ast.Starred, ast.With, ast.Nonlocal, ast.Import,
 )
 
 
@@ -108,6 +108,25 @@ class Trees(unittest.TestCase):
                 if isinstance(node, ast.Constant) and isinstance(node.value, str):
                     self.assertNotIn("%", node.value)
 
+    def test_one_lambda_on_a_line(self):
+        for name, tree in self.trees():
+            lines = [node.lineno for node in ast.walk(tree) if isinstance(node, ast.Lambda)]
+            self.assertEqual(len(lines), len(set(lines)), name)
+
+    def test_inner_functions_assign_no_name_of_an_outer_one(self):
+        def assigned(function):
+            found = {each.arg for each in function.args.args}
+            inner = [node for node in ast.walk(function) if node is not function and isinstance(node, ast.FunctionDef)]
+            skipped = {id(each) for node in inner for each in ast.walk(node)}
+            names = [node for node in ast.walk(function) if isinstance(node, ast.Name) and isinstance(node.ctx, ast.Store)]
+            return found | {node.id for node in names if id(node) not in skipped}, inner
+
+        for name, tree in self.trees():
+            for function in self.functions(tree):
+                own, inner = assigned(function)
+                for each in inner:
+                    self.assertEqual(own & assigned(each)[0], set(), (name, each.name))
+
     def test_names(self):
         for name, tree in self.trees():
             for node in ast.walk(tree):
@@ -137,9 +156,12 @@ class Trees(unittest.TestCase):
                     own.add(node.name)
                     methods.add(node.name)
         for name, tree in self.trees():
+            # Functions may be values of variables and parameters.
+            held = {node.arg for node in ast.walk(tree) if isinstance(node, ast.arg)}
+            held |= {node.id for node in ast.walk(tree) if isinstance(node, ast.Name) and isinstance(node.ctx, ast.Store)}
             for node in ast.walk(tree):
                 if isinstance(node, ast.Call) and isinstance(node.func, ast.Name):
-                    self.assertIn(node.func.id, own | BUILTINS | {"ValueError"}, (name, node.lineno))
+                    self.assertIn(node.func.id, own | held | BUILTINS | {"ValueError"}, (name, node.lineno))
                 if isinstance(node, ast.Call) and isinstance(node.func, ast.Attribute):
                     self.assertIn(node.func.attr, methods, (name, node.lineno))
 
