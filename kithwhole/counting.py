@@ -1,7 +1,7 @@
 """Whether a change that is made next would count."""
 
 from kithwhole.changes import Change
-from kithwhole.rights import WRITE, capability_info, is_fit, is_held, verdicts
+from kithwhole.rights import WRITE, capability_info, is_held, verdicts
 
 
 def next_change(store, member, capability, publics, parts):
@@ -18,7 +18,8 @@ def with_change(store, change):
 
 def would_count(store, change, spaces):
     """Return True if the next change of its author would count in each of the spaces."""
-    if not is_fit(store, change) or not verdicts(with_change(store, change))[change.name()]:
+    # What is allowed is fit, too.
+    if not verdicts(with_change(store, change))[change.name()]:
         return False
     rights = capability_info(store, change.capability)[2]
     if not all([rights[space][WRITE] for space in spaces]):

@@ -26,9 +26,12 @@ def answer(tree, sources, parameters):
 
 
 def _sorted_by(rows, place, descending):
+    pairs = [(value_key(row[place]), row) for row in rows]
     if descending:
-        return sorted(rows, key=lambda row: value_key(row[place]), reverse=True)
-    return sorted(rows, key=lambda row: value_key(row[place]))
+        pairs = sorted(pairs, key=lambda pair: pair[0], reverse=True)
+    else:
+        pairs = sorted(pairs, key=lambda pair: pair[0])
+    return [row for _, row in pairs]
 
 
 def query_rows(query, sources, parameters):
@@ -94,8 +97,8 @@ def _select(select, scopes, given):
 def _groups(at, rows, keys):
     """Return for each group the rows that the scopes of the list stand at."""
     if keys is None:
-        # Of a group of all rows no column is told, so it does not matter which row stands for it.
-        return [at + (rows[0] if rows else (), rows)]
+        # No column has a value in a group of all rows, so no row needs to stand for it.
+        return [at + ((), rows)]
     groups = {}
     for row in rows:
         key = row_key([value(at + (row,)) for value in keys])

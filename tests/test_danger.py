@@ -140,7 +140,7 @@ class Danger(Base):
         net.change(0, [("drop", ROW)])
         self.assertEqual(self.changes(net, 1, 5), [])
 
-    def test_parts_that_are_not_known_are_not_asked(self):
+    def test_another_space(self):
         net = start()
         self.assertEqual(self.changes(net, 1, 1, space=1), [])
 

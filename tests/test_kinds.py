@@ -1,5 +1,6 @@
 """Points 60 to 69: the check of a question, its order, and the first error."""
 
+import itertools
 import unittest
 
 from kithwhole.errors import (
@@ -391,6 +392,51 @@ class Grouping(Base):
         self.refused("select * from t group by nope", UnknownColumn, "nope")
         self.refused("select * from t group by 1", GroupingNotAllowed)
         self.refused("select * group by nope", UnknownColumn, "nope")
+
+
+# An expression for each error that can stand in an expression, with what the error tells.
+WRONG = [
+    ("exists (select 1 from nope)", UnknownTable, "nope"), ("x.nope", UnknownColumn, "x.nope"),
+    ("exists (select id from t join u on true)", AmbiguousColumn, "id"),
+    ("exists (select 1 from t join t on true)", DuplicateSource, "t"),
+    ("exists (select a from t group by b)", NotGrouped, "a"), ("$9", UnknownParameter, 9),
+    ("1 + true", KindMismatch, None), ("1 in (select 1, 2)", ColumnCount, None), ("(select 1)", RowCount, None),
+    ("exists (select sum(sum(1)))", AggregateNotAllowed, None),
+    ("exists (select 1 from t group by 1)", GroupingNotAllowed, None), ("exists (select *)", NothingToShow, None),
+]
+# Two places of a select, the one that is checked first ahead.
+ORDERED = [
+    "select {0}, {1} from t q", "select {0} is null and {1} is null from t q", "select 1 in ({0} is null, {1}) from t q",
+    "select case when {0} is null then {1} else 1 end from t q",
+    "select {1} from (select {0}) q", "select {1} from t q where {0} is null", "select {1} from t q group by {0}",
+    "select 1 from t q where {0} is null group by {1}", "select {0} from t q group by q.a having {1} is null",
+    "select 1 from t q join u on {0} is null where {1} is null", "select {0} from t q order by nope",
+    "select 1 from (select {0}) q join (select {1}) r on true", "select 1 from (select {0}) q join nope on true",
+    "select 1 from t q join (select {0}) r on {1} is null", "select {0} union select {1}",
+    "select count({0}), {1} from t q", "select exists (select {0}), {1}", "select max({0}) in (select {1}) from t q",
+]
+
+
+class FirstErrors(Base):
+    """Each error beside each other one: the first in the told order is raised."""
+
+    def test_all_pairs(self):
+        for first, second in itertools.product(WRONG, repeat=2):
+            for text in ORDERED:
+                self.refused(text.format(first[0], second[0]), *first[1:])
+
+    def test_the_sources_ahead_of_a_condition(self):
+        for wrong in WRONG:
+            self.refused(f"select 1 from t q join t q on {wrong[0]} is null", DuplicateSource, "q")
+            self.refused(f"select 1 from nope join (select {wrong[0]}) q on true", UnknownTable, "nope")
+            self.refused(f"select * where {wrong[0]} is null", *wrong[1:])
+            self.refused(f"select * group by {wrong[0]}", *wrong[1:])
+            self.refused(f"select * having {wrong[0]} is null", NothingToShow)
+            self.refused(f"select count(*) from t where {wrong[0]} is null order by 9", *wrong[1:])
+            self.refused(f"select 1, 2 union select {wrong[0]}", *wrong[1:])
+            self.refused(f"select 1 from t where count({wrong[0]}) = 1", AggregateNotAllowed)
+            self.refused(f"select case when 1 then {wrong[0]} else 1 end", KindMismatch)
+            self.refused(f"select b from t group by a having {wrong[0]} is null", NotGrouped, "b")
 
 
 class Results(Base):

@@ -198,6 +198,14 @@ class OtherLenses(Base):
         told = self.taken([("put", (0, 3, 0), S, "x")], ("set", first, "q", "x"), lens=(0, 2, 1))
         self.assertEqual(told["s0_v0"], [(first, 1, "x"), (second, 2, None)])
 
+    def test_a_row_leaves_the_lens_above_by_an_edit_under_the_name_of_its_base(self):
+        self.lenses((T, ((N, "a"), (S, "z")), ()), (LENS, ((S, "q"),), ((N, 1),)))
+        first, = self.rows({N: 1})
+        self.refused(NotWritable, (0, "a"), ("set", first, "a", 2), lens=(0, 2, 1))
+        told = self.taken([("put", (0, 3, 0), N, 2), ("put", (0, 3, 0), S, "x")], ("set", first, "a", 2),
+                          ("set", first, "z", "x"))
+        self.assertEqual((told["s0_v0"], told["s0_v1"]), ([(first, 2, "x")], []))
+
     def test_a_lens_that_does_not_hold_its_name(self):
         self.lenses(("lens", "u", T, ((N, "a"),), ((S, "x"),)))
         first, second = self.rows({S: "x"}, {S: "y"})

@@ -217,6 +217,25 @@ class Primary(Base):
         self.refused("select a is not", 15)
 
 
+    def test_a_text_is_no_keyword_and_no_sign(self):
+        for word in ("select", "not", "-", "(", "*", "distinct", "null", "case", "exists", "count", "sum", "from"):
+            self.told(f"'{word}'", lit(word))
+            self.told(f"a = '{word}'", op("=", A, lit(word)))
+            self.told(f"('{word}')", lit(word))
+            self.told(f"a in ('{word}')", ("in_list", A, (lit(word),), False))
+        for word in ("or", "and", "=", "is", "in", "not", "+", "*", "as", "from", "where", "union", "order", "limit", ","):
+            self.refused(f"select a '{word}' b", 9)
+        self.refused("select t'.'a", 8)
+        self.refused("select a is 'not' null", 12)
+        self.refused("select a is 'null'", 12)
+        self.refused("select a union 'all' select b", 15)
+        self.refused("select a union '('select b)", 15)
+        self.refused("select count('*'", None)
+        self.refused("select a from '('select b) c", 14)
+        self.refused("select a order by b 'desc'", 20)
+        self.refused("'select' a", 0)
+
+
 class Queries(Base):
     def test_selects(self):
         self.question("select *", question(select()))

@@ -147,6 +147,10 @@ class Queries(Base):
         self.printed(question(select(source=("join", ("join", t, u, A, False), v, B, True))),
                      "select * from t join u y on a left join (select 1) q on b")
 
+    def test_blanks(self):
+        text = "select x.a, count(*) as n from t x where (a + 1) * 2 in (1, - 2) and not exists (select 'it''s')"
+        self.assertEqual(write_question(parse(text.replace(" ", "  "))), text)
+
     def test_words_side_by_side(self):
         tree = question(select((lit(1), "a"), op("mod", lit(2), ("negate", lit(3))), ("aggregate", "count", lit("x")),
                                source=table("t"), where=("is_null", ("not", lit(True)), False)), (1, True), limit=5)
