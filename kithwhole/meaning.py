@@ -84,7 +84,7 @@ def _select(select, scopes, given):
             found = [row for row in found if kept(at + (row,)) is True]
         places = [at + (row,) for row in found]
         if grouping:
-            places = _groups(at, found, keys)
+            places = grouped_places(at, found, keys)
         if wanted is not None:
             places = [place for place in places if wanted(place) is True]
         if told is not None:
@@ -94,7 +94,7 @@ def _select(select, scopes, given):
     return (names, rows)
 
 
-def _groups(at, rows, keys):
+def grouped_places(at, rows, keys):
     """Return for each group the rows that the scopes of the list stand at."""
     if keys is None:
         # No column has a value in a group of all rows, so no row needs to stand for it.

@@ -224,14 +224,14 @@ def _all_capabilities(store):
     return sorted(found)
 
 
+def held_entries(store, allowed):
+    """Return the tuples of capability, parent, holder and rights of all that are held but None, ascending."""
+    revoked = _all_revoked(store, allowed)
+    held = [each for each in _all_capabilities(store) if _is_held(store, allowed, revoked, each)]
+    return [(capability,) + _stated(store, capability) for capability in held]
+
+
 def _with_right(store, allowed, member, space, right):
     """Return the capabilities with this right that are held and whose holder is the member."""
-    revoked = _all_revoked(store, allowed)
-    found = []
-    for capability in _all_capabilities(store):
-        if not _is_held(store, allowed, revoked, capability):
-            continue
-        _, holder, rights = _stated(store, capability)
-        if holder == member and rights[space][right]:
-            found.append(capability)
-    return found
+    entries = [entry for entry in held_entries(store, allowed) if entry[2] == member]
+    return [capability for capability, _, _, rights in entries if rights[space][right]]

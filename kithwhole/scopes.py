@@ -5,6 +5,8 @@ the name by which its source is known and its own name. The innermost scope stan
 """
 
 AGGREGATES = ("count_all", "aggregate")
+# The expressions that contain a query.
+QUERYING = ("in_query", "exists", "scalar")
 
 
 class Given:
@@ -54,13 +56,23 @@ def operands(expression):
 
 def has_aggregate(expression):
     """Return True if an aggregate in the expression belongs to the select of the expression."""
+    return any([each[0] in AGGREGATES for each in all_in(expression)])
+
+
+def has_query(expression):
+    """Return True if the expression contains a query."""
+    return any([each[0] in QUERYING for each in all_in(expression)])
+
+
+def all_in(expression):
+    """Return the expression and all expressions in it, without those in a query in it."""
+    found = []
     queue = [expression]
     while queue:
         each = queue.pop()
-        if each[0] in AGGREGATES:
-            return True
+        found.append(each)
         queue.extend(operands(each))
-    return False
+    return found
 
 
 def lists_aggregate(select):

@@ -184,16 +184,17 @@ class Sheet:
         drops = self._drops.get(target, [])
         return not any([is_closed_for(self._store, self._seals, change, drop[:2]) for drop in drops])
 
-    def _showing(self, row, column):
+    def showing_writes(self, row, column):
+        """Return the spots of the writes that show in the cell, in order."""
         return shown_writes(self._store, self._allowed, self.writes(row, column))
 
     def shown(self, row, column):
         """Return the values, or references, that show in the cell, in order."""
-        return [self._act_of[spot][3] for spot in self._showing(row, column)]
+        return [self._act_of[spot][3] for spot in self.showing_writes(row, column)]
 
     def counted(self, row, column):
         """Return the spot of the write that counts, or None."""
-        showing = self._showing(row, column)
+        showing = self.showing_writes(row, column)
         return showing[-1] if showing else None
 
     def entry(self, row, column):

@@ -27,10 +27,11 @@ def is_closed_for(store, seals, change, name):
     """Return True if the change with this name is closed for the acts of the change, given the seals."""
     if is_cut(store, name):
         return True
-    return any([_seals_off(seal, name) for seal in seals if in_past(seal.name(), change)])
+    return any([seals_off(seal, name) for seal in seals if in_past(seal.name(), change)])
 
 
-def _seals_off(seal, name):
+def seals_off(seal, name):
+    """Return True if the seal is the change with this name, or has it in its past."""
     return seal.name() == name or in_past(name, seal)
 
 

@@ -44,6 +44,28 @@ FUNCTIONS = {
         "is_moment": "store counts", "at": "store counts", "meet": "first second", "join": "first second",
         "moment_of": "store name", "chain": "store", "between": "store first second tree parameters",
         "history": "store tree parameters"},
+    "plans": {"plan_of": "query sources", "run": "plan sources parameters", "width": "plan sources"},
+    "rules": {
+        "applied": "plan step sources", "all_steps": "plan sources", "follow": "plan paper sources",
+        "judge": "plan paper last sources"},
+    "best": {
+        "best": "plan sources parameters", "judge_best": "plan sources parameters table",
+        "best_plan": "plan sources parameters"},
+    "why": {
+        "entries": "query sources parameters", "ways": "tree sources parameters row",
+        "rests_on": "store allowed source row"},
+    "spaces": {"shown_to": "store member", "agree": "first second", "joined": "first second"},
+    "cutting": {
+        "last_seal": "store", "before_seal": "store seal", "kept_capabilities": "store", "kept_of": "store space",
+        "cut_at": "store seal", "is_known": "store space", "is_known_to": "store space seal"},
+    "codes": {
+        "write_number": "number", "write_integer": "number", "write_string": "text", "write_value": "value",
+        "write_act": "act", "write_change": "change", "write_kept": "kept", "write_capability": "entry",
+        "write_store": "store"},
+    "packets": {"asking": "store member", "giving": "store packet", "taking": "store packet"},
+    "log": {
+        "write_record": "data", "checksum": "data", "read_records": "data", "log_start": "turn store",
+        "read_log": "data members", "counting_file": "first second members"},
 }
 
 METHODS = {
@@ -59,7 +81,29 @@ METHODS = {
         "__init__": "store allowed space", "lens": "spot", "knows": "spot other", "act_of": "spot",
         "holds": "column", "table_of": "spot", "writes": "row column", "shown": "row column",
         "counted": "row column", "entry": "row column"},
+    ("reading", "Reader"): {
+        "__init__": "data", "read_number": "", "read_integer": "", "read_string": "", "read_value": "",
+        "read_act": "", "read_change": "", "read_kept": "", "read_capability": "", "read_store": "", "end": ""},
+    ("files", "File"): {
+        "__init__": "", "write": "data steps", "shorten": "size steps", "flush": "steps", "content": "", "pending": "",
+        "lose": "steps"},
+    ("replica", "Replica"): {
+        "__init__": "member members", "act": "capability publics parts", "have": "", "answer": "packet",
+        "take": "packet", "ask": "text parameters moment", "history": "text parameters", "plan": "text parameters",
+        "shares": "space row column", "danger": "space row column amount", "through": "capability space lens edits",
+        "live": "text parameters", "why": "text parameters row", "conflicts": "space", "verdict": "name",
+        "status": "", "trim": "", "open_again": "", "flush": "", "fail_after": "steps", "power": "first second",
+        "log": "index"},
+    ("replica", "Watch"): {"turn": ""},
 }
+
+# The arguments that may be left out, with what stands for them then.
+DEFAULTS = {
+    ("Kept", "__init__"): [()], ("Replica", "ask"): [(), None], ("Replica", "history"): [()], ("Replica", "plan"): [()],
+    ("Replica", "live"): [()],
+}
+# The classes and the values of the interface besides, by module.
+NAMES = {"rules": ["RULES"], "tokens": ["KEYWORDS"], "store": ["SPACES"], "why": [], "codes": []}
 
 
 def parsed(module):
@@ -84,12 +128,17 @@ class Interface(unittest.TestCase):
             here = {node.name: arguments(node) for node in classes[name].body if isinstance(node, ast.FunctionDef)}
             for method, told in methods.items():
                 self.assertEqual(here.get(method), ("self " + told).strip(), (name, method))
+            for node in [node for node in classes[name].body if isinstance(node, ast.FunctionDef) and node.name in methods]:
+                given = [ast.literal_eval(each) for each in node.args.defaults]
+                self.assertEqual(given, DEFAULTS.get((name, node.name), []), (name, node.name))
 
     def test_all_can_be_imported(self):
         for module, functions in FUNCTIONS.items():
             loaded = __import__("kithwhole." + module, fromlist=["*"])
             for name in functions:
                 self.assertTrue(callable(getattr(loaded, name)))
+            for name in NAMES.get(module, []):
+                self.assertTrue(hasattr(loaded, name))
 
 
 if __name__ == "__main__":
