@@ -274,7 +274,7 @@ def _triple(reader):
 
 
 def _public(reader):
-    form = read_below(reader, 3)
+    form = read_below(reader, SEAL + 1)
     if form == GRANT:
         member = reader.read_number()
         return ("grant", member, _rights(reader))

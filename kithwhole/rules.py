@@ -5,7 +5,7 @@ from kithwhole.cells import is_integer_value
 from kithwhole.errors import NoPlan
 from kithwhole.plans import width
 from kithwhole.steps import (
-    PAIRING, all_columns, below, column_at, filled, moved, place_of, replaced, used_places, with_below,
+    PAIRING, all_columns, below, column_at, filled, moved, place_of, used_places, with_below,
 )
 
 RULES = (
@@ -26,7 +26,7 @@ def _is_step(step):
     if not isinstance(step, tuple) or len(step) != 2:
         return False
     rule, path = step
-    if not isinstance(rule, str) or rule not in RULES or not isinstance(path, tuple):
+    if rule not in RULES or not isinstance(path, tuple):
         return False
     return all([is_integer_value(index) for index in path])
 

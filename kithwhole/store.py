@@ -1,6 +1,6 @@
 """Stores: what a replica knows."""
 
-from kithwhole.changes import in_order, in_past
+from kithwhole.changes import in_order
 
 SPACES = 4
 

@@ -1,6 +1,5 @@
 """Why a row of an answer is there: its ways, and the changes on which the rows of tables rest."""
 
-from kithwhole.changes import in_past
 from kithwhole.errors import NoReason
 from kithwhole.holders import holding_tables
 from kithwhole.kinds import check
@@ -171,8 +170,6 @@ class Ground:
     def put(self, spot):
         """Put the change of an act, and behind it those that granted its capability, as far up as it is told."""
         name = spot[:2]
-        if name in self._stood:
-            return
         self._note(name)
         if self.is_sealed(name):
             return

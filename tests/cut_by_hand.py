@@ -1,7 +1,7 @@
 """The past cut away as points 90 to 92 tell it, to get stores with a cut and kept things."""
 
 from kithwhole.rights import verdicts
-from kithwhole.store import SPACES, Kept, Store
+from kithwhole.store import SPACES, Kept
 from tests.oracle import Oracle
 
 

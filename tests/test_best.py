@@ -187,9 +187,6 @@ class Plans(unittest.TestCase):
         self.told(plan, ("pick", (col(0), col(1), col(2), col(3)), (
             "keep", three, ("keep", two, ("keep", one, ("cross", A, B))))))
         # Those of the left plan are read before those of the right one, and both before that of the join.
-        plan = ("join", three, ("join", one, O, A), ("join", two, O, A))
-        made = best_plan(plan, SOURCES, [])
-        self.assertEqual(made[0], "pick")
         yes = [("parameter", number) for number in (1, 2, 3)]
         plan = ("join", yes[2], ("keep", yes[0], O), ("keep", yes[1], O))
         each = ("keep", yes[2], ("keep", yes[1], ("keep", yes[0], O)))

@@ -71,6 +71,26 @@ class Trees(unittest.TestCase):
                     self.assertTrue(node.module.startswith("kithwhole."), name)
                     self.assertEqual((node.level, [each.asname for each in node.names if each.asname]), (0, []))
 
+    def test_names_at_module_level_are_bound_once_and_plainly(self):
+        for name, tree in self.trees():
+            bound = [each.name for node in tree.body if isinstance(node, ast.ImportFrom) for each in node.names]
+            bound += [node.name for node in tree.body if isinstance(node, (ast.FunctionDef, ast.ClassDef))]
+            for node in [node for node in tree.body if isinstance(node, ast.Assign)]:
+                self.assertEqual([type(target) for target in node.targets], [ast.Name], (name, node.lineno))
+                bound.append(node.targets[0].id)
+                for each in ast.walk(node.value):
+                    self.assertNotIsInstance(each, (ast.Call, ast.Lambda, ast.comprehension), (name, node.lineno))
+            self.assertEqual(sorted(bound), sorted(set(bound)), name)
+
+    def test_no_name_is_a_method_and_an_attribute_of_one_class(self):
+        for name, tree in self.trees():
+            for node in [node for node in tree.body if isinstance(node, ast.ClassDef)]:
+                methods = [each.name for each in node.body if isinstance(each, ast.FunctionDef)]
+                self.assertEqual(len(methods), len(set(methods)), (name, node.name))
+                stored = {each.attr for each in ast.walk(node)
+                          if isinstance(each, ast.Attribute) and isinstance(each.ctx, ast.Store)}
+                self.assertEqual(stored & set(methods), set(), (name, node.name))
+
     def test_imports_name_the_file_that_defines_the_name(self):
         for name, tree in self.trees():
             for node in [node for node in tree.body if isinstance(node, ast.ImportFrom)]:

@@ -235,8 +235,7 @@ class Steps(Case):
 class Papers(Case):
     def setUp(self):
         self.plan = plan_of(parse("select t.a from t join u on t.a = u.a where b and u.id <> '7'")[1], SOURCES)
-        self.paper = [("cross", (0, 0)), ("split", (0,)), ("swap", (0,)), ("swap", (0, 0)), ("match", (0, 0, 0)),
-                      ("swap", (0,))][:3]
+        self.paper = [("cross", (0, 0)), ("split", (0,)), ("swap", (0,))]
         self.last = follow(self.plan, self.paper, SOURCES)
 
     def test_follow(self):

@@ -8,7 +8,7 @@ from kithwhole.rights import may_read, verdicts
 from kithwhole.spaces import agree, joined, shown_to
 from kithwhole.store import SPACES, Kept, Store, is_whole
 from tests.random_stores import Maker
-from tests.support import ALL_RIGHTS, BOTH, NO, NO_RIGHTS, READ, UNKNOWN, WRITE, Net, make
+from tests.support import BOTH, NO, NO_RIGHTS, READ, UNKNOWN, WRITE, Net, make
 
 TABLE = ("table", "t")
 KEPT = Kept([((0, 1, 0), TABLE)], [(((0, 1, 0), (0, 1, 1)), 3)], [(((0, 1, 0), (0, 1, 2)), [((0, 1, 3, 0), "a")])],
@@ -276,7 +276,7 @@ class RandomStores(unittest.TestCase):
                     self.assertEqual(set(known), {may_read(store, allowed, member, space)} if known else set())
 
 
-class Helpers(unittest.TestCase):
+class Arguments(unittest.TestCase):
     def test_changes_are_made_anew(self):
         change = Change(0, 1, (0,), None, (), [None] * 4)
         store = Store(1)
@@ -285,7 +285,6 @@ class Helpers(unittest.TestCase):
         other.add(change.with_parts([(TABLE,), None, None, None]))
         joined(store, other)
         self.assertEqual(change.parts, (None,) * 4)
-        self.assertEqual(ALL_RIGHTS[0], (True, True, True))
 
 
 if __name__ == "__main__":

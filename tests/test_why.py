@@ -100,7 +100,8 @@ class Entries(unittest.TestCase):
             "select t.a from t join u on exists (select 1)", "select a from t except select a from u",
             "select a from t intersect select a from u", "select a from t union select count(*) from u",
             "select a from t except select a from u union all select a from e",
-            "select a from (select max(a) as a from t) q", "select q.a from t join (select distinct a from e group by a) q on true",
+            "select a from (select max(a) as a from t) q",
+            "select q.a from t join (select distinct a from e group by a) q on true",
             "select a from e where a in (1, (select min(a) from t))",
         ):
             with self.subTest(text):
