@@ -127,7 +127,7 @@ class Networks(unittest.TestCase):
         return happened, told
 
     def test_three_members(self):
-        happened, told = self.check(range(14), 90)
+        happened, told = self.check(range(9), 90)
         for word in ("act", "take", "trim", "dark", "UncountedChange"):
             self.assertGreater(happened.get(word, 0), 10, word)
         for word in ("same cut", "other cut", "compared"):
@@ -143,7 +143,7 @@ class Networks(unittest.TestCase):
         self.assertGreater(told["compared"], 10)
 
     def test_without_failures(self):
-        happened, told = self.check(range(300, 305), 80, failing=0, rude=0, members=4)
+        happened, told = self.check(range(300, 304), 80, failing=0, rude=0, members=5)
         self.assertEqual(happened.get("dark", 0), 0)
         self.assertGreater(told["compared"], 20)
 
@@ -152,7 +152,7 @@ class Networks(unittest.TestCase):
         self.assertGreater(happened["dark"], 80)
 
     def test_packets_that_come_late(self):
-        happened, _ = self.check(range(600, 605), 120, late=0.5, failing=0)
+        happened, _ = self.check(range(600, 604), 120, late=0.5, failing=0)
         self.assertGreater(happened["unfit"], 1)
 
     def test_one_member(self):
